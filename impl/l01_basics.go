@@ -1,0 +1,238 @@
+package impl
+
+import (
+	"cmp"
+	"math/bits"
+	"strconv"
+	"strings"
+)
+
+// Constants of chapter 1.
+const (
+	OK           = 0
+	ErrInvalid   = 1
+	ErrRange     = 2
+	ErrNotFound  = 3
+	ErrExists    = 4
+	ErrFull      = 5
+	ErrState     = 6
+	ErrOrder     = 7
+	ErrSyntax    = 8
+	ErrFormat    = 9
+	ErrChecksum  = 10
+	ErrTruncated = 11
+	MaxName      = 10
+	MaxList      = 64
+	MaxBudget    = 20000
+	MaxValue     = 1000000000000
+	CrcStart     = 65535
+)
+
+const (
+	maxDigits     = 18
+	maxBlend      = 1000000
+	crcMask       = 65535
+	crcDivisor    = 4129
+	emptyList     = "-"
+	listSeparator = ","
+)
+
+// CodeName returns the name of an error code; the empty string for other numbers.
+func CodeName(code int64) string {
+	names := [...]string{
+		OK:           "ok",
+		ErrInvalid:   "invalid",
+		ErrRange:     "range",
+		ErrNotFound:  "not-found",
+		ErrExists:    "exists",
+		ErrFull:      "full",
+		ErrState:     "state",
+		ErrOrder:     "order",
+		ErrSyntax:    "syntax",
+		ErrFormat:    "format",
+		ErrChecksum:  "checksum",
+		ErrTruncated: "truncated",
+	}
+	if !within(OK, ErrTruncated, code) {
+		return ""
+	}
+	return names[code]
+}
+
+// IsName reports whether s is a name.
+func IsName(s string) bool {
+	if !within(1, MaxName, len(s)) || !isLetter(s[0]) {
+		return false
+	}
+	for i := range len(s) {
+		if !isLetter(s[i]) && !isDigit(s[i]) {
+			return false
+		}
+	}
+	return true
+}
+
+// Decimal returns a number in decimal.
+func Decimal(n int64) string {
+	return strconv.FormatInt(n, 10)
+}
+
+// ReadDecimal returns the number with a decimal form of at most 18 digits.
+func ReadDecimal(s string) (int64, bool) {
+	if len(strings.TrimPrefix(s, "-")) > maxDigits {
+		return 0, false
+	}
+	n, err := strconv.ParseInt(s, 10, 64)
+	// ParseInt also takes forms that Decimal never gives: "+1", "-0", "01".
+	if err != nil || Decimal(n) != s {
+		return 0, false
+	}
+	return n, true
+}
+
+// SplitWords divides a line at blanks, and leaves out empty parts.
+func SplitWords(s string) []string {
+	// strings.Fields would divide at tabs and line ends as well.
+	return strings.FieldsFunc(s, func(r rune) bool { return r == ' ' })
+}
+
+// ListText returns a list of numbers as text; the empty string if the list has none.
+func ListText(list []int64) string {
+	if len(list) > MaxList || !within(-MaxValue, MaxValue, list...) {
+		return ""
+	}
+	if len(list) == 0 {
+		return emptyList
+	}
+	parts := make([]string, len(list))
+	for i, n := range list {
+		parts[i] = Decimal(n)
+	}
+	return strings.Join(parts, listSeparator)
+}
+
+// ReadList returns the list with a text.
+func ReadList(s string) ([]int64, bool) {
+	if s == emptyList {
+		return nil, true
+	}
+	// One part more than a list may have is enough to refuse a text of any length.
+	parts := strings.SplitN(s, listSeparator, MaxList+1)
+	list := make([]int64, len(parts))
+	for i, part := range parts {
+		n, ok := ReadDecimal(part)
+		if !ok {
+			return nil, false
+		}
+		list[i] = n
+	}
+	if ListText(list) != s {
+		return nil, false
+	}
+	return list, true
+}
+
+// Crc16 returns the check value of bytes; 0 if start is not one of 16 bits.
+func Crc16(s string, start int64) int64 {
+	if !within(0, crcMask, start) {
+		return 0
+	}
+	check := start
+	for i := range len(s) {
+		check ^= int64(s[i]) * 256
+		for range 8 {
+			check *= 2
+			if check > crcMask {
+				check = check&crcMask ^ crcDivisor
+			}
+		}
+	}
+	return check
+}
+
+// RootOf returns the square root, rounded down; 0 for negative numbers.
+func RootOf(n int64) int64 {
+	if n <= 0 {
+		return 0
+	}
+	square := uint64(n)
+	root := uint64(0)
+	for bit := uint64(1) << ((bits.Len64(square) - 1) / 2); bit > 0; bit /= 2 {
+		// A try is below 2 to the power of 32, so its square fits into uint64, but not always into int64.
+		if try := root | bit; try*try <= square {
+			root = try
+		}
+	}
+	return int64(root)
+}
+
+// DivRound returns the nearest quotient; 0 if a number is out of its limits or b is 0.
+func DivRound(a, b int64) int64 {
+	if !within(-MaxValue, MaxValue, a, b) {
+		return 0
+	}
+	return nearest(a, b)
+}
+
+// Blend returns a number on a line through two points; 0 if a point is out of its limits.
+func Blend(x0, y0, x1, y1, x int64) int64 {
+	if !within(-maxBlend, maxBlend, x0, y0, x1, y1) {
+		return 0
+	}
+	return blend(x0, y0, x1, y1, x)
+}
+
+// nearest is DivRound for all numbers.
+func nearest(a, b int64) int64 {
+	if b == 0 {
+		return 0
+	}
+	quotient, rest := a/b, size(a%b)
+	// The rest is below 2 to the power of 63, so twice the rest fits into uint64.
+	if 2*rest < size(b) {
+		return quotient
+	}
+	if (a < 0) == (b < 0) {
+		return quotient + 1
+	}
+	return quotient - 1
+}
+
+// blend is Blend without limits for the points.
+func blend(x0, y0, x1, y1, x int64) int64 {
+	if x1 <= x0 {
+		return y0
+	}
+	return y0 + nearest((y1-y0)*(clamp(x0, x1, x)-x0), x1-x0)
+}
+
+// size returns the absolute value, which for the least number does not fit into int64.
+func size(n int64) uint64 {
+	if n < 0 {
+		return -uint64(n)
+	}
+	return uint64(n)
+}
+
+// within reports whether all values are from low to high.
+func within[T cmp.Ordered](low, high T, values ...T) bool {
+	for _, v := range values {
+		if v != clamp(low, high, v) {
+			return false
+		}
+	}
+	return true
+}
+
+// clamp returns the value from low to high that is nearest to v.
+func clamp[T cmp.Ordered](low, high, v T) T {
+	return max(low, min(v, high))
+}
+
+func isLetter(b byte) bool {
+	return within('a', 'z', b)
+}
+
+func isDigit(b byte) bool {
+	return within('0', '9', b)
+}

@@ -1,0 +1,57 @@
+package impl
+
+import (
+	"math"
+	"math/big"
+	"testing"
+)
+
+// exactNearest rounds half away from zero in arithmetic without limits.
+func exactNearest(a, b int64) *big.Int {
+	numerator := new(big.Int).Abs(big.NewInt(a))
+	denominator := new(big.Int).Abs(big.NewInt(b))
+	numerator.Mul(numerator, big.NewInt(2)).Add(numerator, denominator)
+	quotient := numerator.Quo(numerator, denominator.Mul(denominator, big.NewInt(2)))
+	if (a < 0) != (b < 0) {
+		quotient.Neg(quotient)
+	}
+	return quotient
+}
+
+// Later chapters round formulas whose numbers are beyond the limits of DivRound.
+func TestNearestForAllNumbers(t *testing.T) {
+	numbers := []int64{
+		math.MinInt64, math.MinInt64 + 1, math.MinInt64 / 2, math.MinInt64/2 - 1, math.MinInt64/2 + 1,
+		-MaxValue - 1, -MaxValue, -7, -5, -3, -2, -1, 0, 1, 2, 3, 5, 7, MaxValue, MaxValue + 1,
+		math.MaxInt64/2 - 1, math.MaxInt64 / 2, math.MaxInt64/2 + 1, math.MaxInt64 - 1, math.MaxInt64,
+	}
+	for _, a := range numbers {
+		for _, b := range numbers {
+			got := nearest(a, b)
+			if b == 0 {
+				if got != 0 {
+					t.Errorf("nearest(%d, 0) = %d", a, got)
+				}
+				continue
+			}
+			want := exactNearest(a, b)
+			if want.IsInt64() && got != want.Int64() {
+				t.Errorf("nearest(%d, %d) = %d, want %s", a, b, got, want)
+			}
+		}
+	}
+}
+
+func TestBlendBeyondItsLimits(t *testing.T) {
+	cases := []struct{ x0, y0, x1, y1, x, want int64 }{
+		{0, 0, 2 * maxBlend, 4 * maxBlend, maxBlend, 2 * maxBlend},
+		{-2 * maxBlend, 0, 2 * maxBlend, 3, 0, 2},
+		{0, MaxValue, 2, MaxValue + 3, 1, MaxValue + 2},
+		{0, MaxValue, 2, MaxValue - 3, 1, MaxValue - 2},
+	}
+	for _, c := range cases {
+		if got := blend(c.x0, c.y0, c.x1, c.y1, c.x); got != c.want {
+			t.Errorf("blend(%d, %d, %d, %d, %d) = %d, want %d", c.x0, c.y0, c.x1, c.y1, c.x, got, c.want)
+		}
+	}
+}
