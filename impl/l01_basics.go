@@ -214,14 +214,36 @@ func size(n int64) uint64 {
 	return uint64(n)
 }
 
-// within reports whether all values are from low to high.
+// within reports whether all values are from low to high; if high is less than low, none is.
 func within[T cmp.Ordered](low, high T, values ...T) bool {
 	for _, v := range values {
-		if v != clamp(low, high, v) {
+		if v < low || v > high {
 			return false
 		}
 	}
 	return true
+}
+
+// isIncreasing reports whether the keys of values are strictly increasing.
+func isIncreasing[T any, K cmp.Ordered](values []T, key func(T) K) bool {
+	for i := 1; i < len(values); i++ {
+		if key(values[i]) <= key(values[i-1]) {
+			return false
+		}
+	}
+	return true
+}
+
+// argumentCode returns the error of an argument that is valid or not, or else that of the others, which are in their
+// ranges or not.
+func argumentCode(isValid, inRange bool) int64 {
+	switch {
+	case !isValid:
+		return ErrInvalid
+	case !inRange:
+		return ErrRange
+	}
+	return OK
 }
 
 // clamp returns the value from low to high that is nearest to v.
