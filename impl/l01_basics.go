@@ -198,6 +198,11 @@ func nearest(a, b int64) int64 {
 	return quotient - 1
 }
 
+// roundedUp returns a quotient, for a from 0 on and b from 1 on.
+func roundedUp(a, b int64) int64 {
+	return (a + b - 1) / b
+}
+
 // blend is Blend without limits for the points.
 func blend(x0, y0, x1, y1, x int64) int64 {
 	if x1 <= x0 {
@@ -232,6 +237,15 @@ func isIncreasing[T any, K cmp.Ordered](values []T, key func(T) K) bool {
 		}
 	}
 	return true
+}
+
+// total returns the sum of the amounts of values.
+func total[T any](values []T, amount func(T) int64) int64 {
+	sum := int64(0)
+	for _, v := range values {
+		sum += amount(v)
+	}
+	return sum
 }
 
 // argumentCode returns the error of an argument that is valid or not, or else that of the others, which are in their

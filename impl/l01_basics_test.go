@@ -55,3 +55,25 @@ func TestBlendBeyondItsLimits(t *testing.T) {
 		}
 	}
 }
+
+func TestRoundedUp(t *testing.T) {
+	cases := []struct{ a, b, want int64 }{
+		{0, 1, 0}, {0, 7, 0}, {1, 7, 1}, {6, 7, 1}, {7, 7, 1}, {8, 7, 2}, {14, 7, 2}, {15, 7, 3}, {5, 1, 5},
+		{MaxValue, MaxValue, 1}, {MaxValue + 1, MaxValue, 2},
+	}
+	for _, c := range cases {
+		if got := roundedUp(c.a, c.b); got != c.want {
+			t.Errorf("roundedUp(%d, %d) = %d, want %d", c.a, c.b, got, c.want)
+		}
+	}
+}
+
+func TestTotal(t *testing.T) {
+	length := func(s string) int64 { return int64(len(s)) }
+	if got := total([]string{"a", "", "bcd"}, length); got != 4 {
+		t.Errorf("total of lengths = %d", got)
+	}
+	if got := total(nil, length); got != 0 {
+		t.Errorf("total of nothing = %d", got)
+	}
+}
