@@ -104,11 +104,7 @@ func ListText(list []int64) string {
 	if len(list) == 0 {
 		return emptyList
 	}
-	parts := make([]string, len(list))
-	for i, n := range list {
-		parts[i] = Decimal(n)
-	}
-	return strings.Join(parts, listSeparator)
+	return strings.Join(converted(list, Decimal), listSeparator)
 }
 
 // ReadList returns the list with a text.
@@ -246,6 +242,15 @@ func total[T any](values []T, amount func(T) int64) int64 {
 		sum += amount(v)
 	}
 	return sum
+}
+
+// converted returns what a function makes of each value.
+func converted[T, U any](values []T, convert func(T) U) []U {
+	list := make([]U, len(values))
+	for i, v := range values {
+		list[i] = convert(v)
+	}
+	return list
 }
 
 // argumentCode returns the error of an argument that is valid or not, or else that of the others, which are in their

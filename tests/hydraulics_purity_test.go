@@ -54,6 +54,12 @@ func TestHydraulicsReturnAlwaysTheSame(t *testing.T) {
 	if !reflect.DeepEqual(results, resultsOfHydraulics()) {
 		t.Error("equal arguments have given different results")
 	}
+	checkCodesComeAlone(t, results)
+}
+
+// checkCodesComeAlone checks that with a code other than OK all other results are zero values.
+func checkCodesComeAlone(t *testing.T, results []any) {
+	t.Helper()
 	for _, result := range results {
 		switch r := result.(type) {
 		case coded:
