@@ -244,6 +244,11 @@ func total[T any](values []T, amount func(T) int64) int64 {
 	return sum
 }
 
+// sumOf returns the sum of values.
+func sumOf(values ...int64) int64 {
+	return total(values, func(v int64) int64 { return v })
+}
+
 // converted returns what a function makes of each value.
 func converted[T, U any](values []T, convert func(T) U) []U {
 	list := make([]U, len(values))

@@ -77,3 +77,12 @@ func TestTotal(t *testing.T) {
 		t.Errorf("total of nothing = %d", got)
 	}
 }
+
+func TestSumOf(t *testing.T) {
+	if got := sumOf(); got != 0 {
+		t.Errorf("the sum of nothing is %d", got)
+	}
+	if got := sumOf(MaxValue, -7, 0, MaxValue); got != 2*MaxValue-7 {
+		t.Errorf("the sum of several numbers is %d", got)
+	}
+}

@@ -25,3 +25,17 @@ func TestReadPointsUpToALimit(t *testing.T) {
 		}
 	}
 }
+
+// Later chapters take the first one of several best numbers.
+func TestFirstLeast(t *testing.T) {
+	heights := []int64{5, 3, 4, -2, 7, -2, 9}
+	cases := []struct{ low, high, at, least int64 }{
+		{0, 6, 3, -2}, {0, 2, 1, 3}, {2, 2, 2, 4}, {4, 6, 5, -2}, {5, 6, 5, -2}, {0, 0, 0, 5}, {3, 5, 3, -2},
+	}
+	for _, c := range cases {
+		at, least := firstLeast(c.low, c.high, func(n int64) int64 { return heights[n] })
+		if at != c.at || least != c.least {
+			t.Errorf("firstLeast(%d, %d) = %d, %d, want %d, %d", c.low, c.high, at, least, c.at, c.least)
+		}
+	}
+}

@@ -26,3 +26,15 @@ func TestGreatestFirst(t *testing.T) {
 		t.Errorf("greatestFirst of many equal values = %d", places)
 	}
 }
+
+func TestGreatestOf(t *testing.T) {
+	values := []int64{-1, 3, -5, 3, 0}
+	for count, want := range [][]int64{nil, {1}, {1, 3}, {1, 3, 4}, {0, 1, 3, 4}, {0, 1, 2, 3, 4}} {
+		if got := greatestOf(values, int64(count)); !slices.Equal(got, want) {
+			t.Errorf("greatestOf(%d, %d) = %d, want %d", values, count, got, want)
+		}
+	}
+	if got := greatestOf(nil, 0); len(got) != 0 {
+		t.Errorf("the greatest of no values are %d", got)
+	}
+}
