@@ -258,6 +258,17 @@ func converted[T, U any](values []T, convert func(T) U) []U {
 	return list
 }
 
+// indicesWhere returns the indices of the values for which a condition holds, in increasing order.
+func indicesWhere[T any](values []T, holds func(T) bool) []int64 {
+	var list []int64
+	for i, v := range values {
+		if holds(v) {
+			list = append(list, int64(i))
+		}
+	}
+	return list
+}
+
 // argumentCode returns the error of an argument that is valid or not, or else that of the others, which are in their
 // ranges or not.
 func argumentCode(isValid, inRange bool) int64 {

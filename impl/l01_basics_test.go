@@ -3,6 +3,7 @@ package impl
 import (
 	"math"
 	"math/big"
+	"slices"
 	"testing"
 )
 
@@ -84,5 +85,21 @@ func TestSumOf(t *testing.T) {
 	}
 	if got := sumOf(MaxValue, -7, 0, MaxValue); got != 2*MaxValue-7 {
 		t.Errorf("the sum of several numbers is %d", got)
+	}
+}
+
+// Several chapters return the places of what they look for.
+func TestIndicesWhere(t *testing.T) {
+	isShort := func(s string) bool { return len(s) < 2 }
+	cases := []struct {
+		values []string
+		want   []int64
+	}{
+		{nil, nil}, {[]string{"ab"}, nil}, {[]string{"a"}, []int64{0}}, {[]string{"ab", "", "abc", "b", "c"}, []int64{1, 3, 4}},
+	}
+	for _, c := range cases {
+		if got := indicesWhere(c.values, isShort); !slices.Equal(got, c.want) {
+			t.Errorf("indicesWhere(%q) = %d, want %d", c.values, got, c.want)
+		}
 	}
 }

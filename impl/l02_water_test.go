@@ -39,3 +39,18 @@ func TestFirstLeast(t *testing.T) {
 		}
 	}
 }
+
+// What never reaches a power even at the end of a range is told of by a code, not by a number behind it.
+func TestLeastFor(t *testing.T) {
+	heights := []int64{-3, 0, 0, 4, 4, 9}
+	cases := []struct{ power, low, high, want, code int64 }{
+		{-9, 0, 5, 0, OK}, {-3, 0, 5, 0, OK}, {-2, 0, 5, 1, OK}, {0, 0, 5, 1, OK}, {1, 0, 5, 3, OK}, {4, 4, 5, 4, OK}, {9, 0, 5, 5, OK},
+		{10, 0, 5, 0, ErrState}, {9, 0, 4, 0, ErrState}, {1, 0, 0, 0, ErrState}, {-3, 0, 0, 0, OK}, {9, 5, 5, 5, OK},
+	}
+	for _, c := range cases {
+		got, code := leastFor(c.power, c.low, c.high, func(n int64) int64 { return heights[n] })
+		if got != c.want || code != c.code {
+			t.Errorf("leastFor(%d, %d, %d) = %d, %d, want %d, %d", c.power, c.low, c.high, got, code, c.want, c.code)
+		}
+	}
+}

@@ -91,6 +91,12 @@ func wrongLists(count int, low, high int64) [][]int64 {
 	if count > 0 {
 		lists = append(lists, good[1:], nil)
 	}
+	return append(lists, wrongAt(good, low, high)...)
+}
+
+// wrongAt are copies of a list, each with one number out of its limits.
+func wrongAt(good []int64, low, high int64) [][]int64 {
+	var lists [][]int64
 	for _, number := range beyond(low, high) {
 		for place := range good {
 			list := slices.Clone(good)

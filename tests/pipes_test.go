@@ -47,6 +47,11 @@ func exactDrop(p impl.Pipe, flow int64) int64 {
 	return quotientOf(d*d*d*d*d, p.Length, 16200, flow, magnitude(flow))
 }
 
+// notNames are no Ids of anything.
+func notNames() []string {
+	return []string{"", "7a", "Main", "a b", "a-b", "abcdefghijk", "é", "a\x00"}
+}
+
 // invalidPipes are those with one thing wrong.
 func invalidPipes() []impl.Pipe {
 	list := []impl.Pipe{{}}
@@ -55,7 +60,7 @@ func invalidPipes() []impl.Pipe {
 		set(&p)
 		list = append(list, p)
 	}
-	for _, id := range []string{"", "7a", "Main", "a b", "a-b", "abcdefghijk", "é", "a\x00"} {
+	for _, id := range notNames() {
 		change(func(p *impl.Pipe) { p.Id = id })
 	}
 	for _, n := range beyond(0, impl.MaxNodes-1) {

@@ -71,7 +71,7 @@ func invalidPumps() []impl.Pump {
 		// A head rises.
 		pumpOf("a", [2]int64{0, 5}, [2]int64{1, 6}), pumpOf("a", [2]int64{0, 5}, [2]int64{1, 4}, [2]int64{2, 5}), pumpOf("a", [2]int64{0, 0}, [2]int64{1, 0}, [2]int64{2, 1}),
 	}
-	for _, id := range []string{"", "7a", "Main", "a b", "a-b", "abcdefghijk", "a:1", "é", "a\x00"} {
+	for _, id := range append(notNames(), "a:1") {
 		list = append(list, steadyPump(id, 5, 5))
 	}
 	for _, n := range beyond(0, impl.MaxFlow) {
