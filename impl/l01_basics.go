@@ -3,6 +3,7 @@ package impl
 import (
 	"cmp"
 	"math/bits"
+	"slices"
 	"strconv"
 	"strings"
 )
@@ -233,6 +234,14 @@ func isIncreasing[T any, K cmp.Ordered](values []T, key func(T) K) bool {
 		}
 	}
 	return true
+}
+
+// areNamed reports whether there are at most so many values, all of them are valid, and their names are strictly
+// increasing.
+func areNamed[T any](values []T, most int, isValid func(T) bool, nameOf func(T) string) bool {
+	return len(values) <= most &&
+		!slices.ContainsFunc(values, func(v T) bool { return !isValid(v) }) &&
+		isIncreasing(values, nameOf)
 }
 
 // total returns the sum of the amounts of values.

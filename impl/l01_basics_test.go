@@ -103,3 +103,21 @@ func TestIndicesWhere(t *testing.T) {
 		}
 	}
 }
+
+// Several chapters take lists of values with names.
+func TestAreNamed(t *testing.T) {
+	nameOf := func(name string) string { return name }
+	cases := []struct {
+		names []string
+		most  int
+		want  bool
+	}{
+		{nil, 0, true}, {[]string{"a"}, 0, false}, {[]string{"a"}, 1, true}, {[]string{"a", "b"}, 1, false}, {[]string{"a", "b"}, 2, true},
+		{[]string{"b", "a"}, 2, false}, {[]string{"a", "a"}, 2, false}, {[]string{"a", "B"}, 2, false}, {[]string{"", "b"}, 3, false}, {[]string{"a", "c", "b"}, 3, false},
+	}
+	for _, c := range cases {
+		if got := areNamed(c.names, c.most, IsName, nameOf); got != c.want {
+			t.Errorf("areNamed(%q, %d) = %v", c.names, c.most, got)
+		}
+	}
+}
