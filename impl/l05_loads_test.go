@@ -38,3 +38,17 @@ func TestGreatestOf(t *testing.T) {
 		t.Errorf("the greatest of no values are %d", got)
 	}
 }
+
+func TestAsIndices(t *testing.T) {
+	for _, places := range [][]int{nil, {0}, {3, 1, 2}} {
+		got := asIndices(places)
+		if len(got) != len(places) {
+			t.Errorf("asIndices(%d) = %d", places, got)
+		}
+		for i, index := range got {
+			if index != int64(places[i]) {
+				t.Errorf("asIndices(%d) = %d", places, got)
+			}
+		}
+	}
+}
